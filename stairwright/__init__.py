@@ -1,0 +1,1 @@
+"""Stairwright: models stepped down to programs."""

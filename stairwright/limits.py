@@ -1,0 +1,12 @@
+"""How many of each there may be, and how deep."""
+
+MOST_SETS = 3
+MOST_ELEMENTS = 4
+MOST_NUM = 15
+MOST_PARTS = 600
+MOST_DEEP = 30
+MOST_MODELS = 4
+MOST_VARIABLES = 6
+MOST_INVARIANTS = 8
+MOST_DEEDS = 6
+MOST_SPLITS = 20000
