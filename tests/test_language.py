@@ -1,6 +1,7 @@
 """Some of the rules of LANGUAGE.md: those that are told by a glance at a file of the package."""
 
 import ast
+import builtins
 import unittest
 import warnings
 from pathlib import Path
@@ -9,6 +10,13 @@ PACKAGE = Path(__file__).resolve().parent.parent / "stairwright"
 BARRED = {"register", "mro", "elements", "open", "input", "law", "version_info", "with_traceback", "add_note", "eval",
           "exec", "globals", "locals", "vars", "type", "typing", "dir", "id", "compile", "delattr"}
 LIBRARY = {"heapq", "math", "itertools", "collections", "__future__"}
+BUILTINS = set("""len range enumerate zip min max sum abs sorted reversed int str bool bytes list tuple dict set
+    frozenset isinstance ord repr any all divmod pow getattr hasattr setattr map iter next super Exception ValueError
+    TypeError KeyError IndexError LookupError ZeroDivisionError ArithmeticError OverflowError RuntimeError
+    NotImplementedError AttributeError StopIteration NotImplemented""".split())
+METHODS = set("""append clear copy count endswith extend find get index insert isalnum isalpha isdigit islower isspace
+    isupper items join keys ljust lower lstrip partition pop remove replace reverse rfind rjust rpartition rsplit
+    rstrip setdefault split splitlines startswith strip update upper values zfill bit_length""".split())
 
 
 def files():
@@ -82,6 +90,59 @@ class LanguageTest(unittest.TestCase):
             for node in ast.walk(tree):
                 with self.subTest(path.name, line=getattr(node, "lineno", None)):
                     self.assertNotIsInstance(node, ast.GeneratorExp)
+
+    def test_builtins(self):
+        # Rule L8.
+        for path, tree in trees():
+            names = {node.id for node in ast.walk(tree) if isinstance(node, ast.Name)}
+            with self.subTest(path.name):
+                self.assertEqual(names & set(dir(builtins)) - BUILTINS, set())
+
+    def test_names_that_have_a_meaning_already(self):
+        # Rule L15.
+        for path, tree in trees():
+            taken = set(dir(builtins))
+            for node in tree.body:
+                if isinstance(node, ast.ImportFrom):
+                    taken |= {part.name for part in node.names}
+                if isinstance(node, ast.ClassDef):
+                    taken.add(node.name)
+            given = {node.arg for node in ast.walk(tree) if isinstance(node, ast.arg)}
+            given |= {node.id for node in ast.walk(tree)
+                      if isinstance(node, ast.Name) and isinstance(node.ctx, ast.Store)}
+            with self.subTest(path.name):
+                self.assertEqual(given & taken, set())
+
+    def test_methods_and_attributes(self):
+        # Rules L18, L25, L26.
+        own, given, read, called = set(), set(), set(), set()
+        for _, tree in trees():
+            for node in ast.walk(tree):
+                if isinstance(node, ast.ClassDef):
+                    own |= {part.name for part in node.body if isinstance(part, ast.FunctionDef)}
+                if isinstance(node, ast.Attribute):
+                    (given if isinstance(node.ctx, ast.Store) else read).add(node.attr)
+                if isinstance(node, ast.Call) and isinstance(node.func, ast.Attribute):
+                    called.add(node.func.attr)
+        self.assertEqual(called - own - METHODS, set())
+        self.assertEqual(read - given - own - METHODS, set())
+        of_builtins = {name for kind in (str, int, list, dict, set, bytes) for name in dir(kind)}
+        self.assertEqual(given & of_builtins, set())
+
+    def test_is_and_signs(self):
+        # Rules L20, L7, L27.
+        for path, tree in trees():
+            for node in ast.walk(tree):
+                with self.subTest(path.name, line=getattr(node, "lineno", None)):
+                    if isinstance(node, ast.Compare):
+                        for sign, other in zip(node.ops, node.comparators):
+                            if isinstance(sign, (ast.Is, ast.IsNot)):
+                                self.assertIsInstance(other, ast.Constant)
+                                self.assertIn(other.value, (None, True, False))
+                    self.assertNotIsInstance(node, (ast.Div, ast.Pow, ast.Global, ast.Yield))
+                    if isinstance(node, ast.Constant):
+                        self.assertNotIsInstance(node.value, float)
+                        self.assertFalse(isinstance(node.value, str) and chr(37) in node.value)
 
     def test_python_gives_no_warning(self):
         # Rule L27.
