@@ -1,14 +1,35 @@
 """The errors: each stands straight under one of three, and under no other one."""
 
 
+# Far more than is handed in anywhere; but one thing may stand at many places of another one.
+MOST_THINGS = 100000
+
+
 def _own(thing):
-    """A copy down to the last list and dict of it."""
+    """A copy down to the last list and dict of it; the thing itself where that would take without end."""
+    return _copy(thing) if _can_be_copied(thing) else thing
+
+
+def _can_be_copied(thing):
+    waiting = [thing]
+    many = 0
+    while len(waiting) > 0 and many <= MOST_THINGS:
+        part = waiting.pop()
+        many += 1
+        if isinstance(part, (list, tuple)):
+            waiting.extend(list(part))
+        elif isinstance(part, dict):
+            waiting.extend(list(part.values()))
+    return many <= MOST_THINGS
+
+
+def _copy(thing):
     if isinstance(thing, list):
-        return [_own(part) for part in thing]
+        return [_copy(part) for part in thing]
     if isinstance(thing, tuple):
-        return tuple([_own(part) for part in thing])
+        return tuple([_copy(part) for part in thing])
     if isinstance(thing, dict):
-        return {key: _own(part) for key, part in thing.items()}
+        return {key: _copy(part) for key, part in thing.items()}
     return thing
 
 

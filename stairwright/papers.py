@@ -42,14 +42,14 @@ def _are_names(carriers, thing):
 def paper_of(carriers, goal):
     """A PAPER of a TRUE GOAL, None of another one; BadCarriers, BadGoal, TooGreat."""
     need_goal(carriers, goal)
-    return _searched(carriers, goal).paper
+    return _searched(carriers, goal).told_paper
 
 
 def break_of(carriers, goal):
     """A BREAK of a GOAL that isn't TRUE, None of a TRUE one; BadCarriers, BadGoal, TooGreat."""
     need_goal(carriers, goal)
     search = _searched(carriers, goal)
-    return search.state() if search.paper is None else None
+    return search.state() if search.told_paper is None else None
 
 
 def _searched(carriers, goal):

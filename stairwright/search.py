@@ -56,7 +56,7 @@ class Search:
         self.waiting = []
         self.splits = []
         self.many = 0
-        self.paper = None
+        self.told_paper = None
 
     def has_ended(self):
         """Goes on till there is a PAPER, or all tests are True by what is known; False of too many splits."""
@@ -68,7 +68,7 @@ class Search:
                     return False
                 self.splits.append(_Split(self.chosen(), self.waiting, len(self.trail)))
             elif len(self.splits) == 0:
-                self.paper = done[0]
+                self.told_paper = done[0]
                 return True
             else:
                 self.leave_value(done)

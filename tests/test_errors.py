@@ -117,6 +117,14 @@ class OfAnythingTest(unittest.TestCase):
         for field in self.made_of(thing):
             self.assertIs(field, thing)
 
+    def test_one_thing_at_many_places(self):
+        for thing in ([1], (1,)):
+            for _ in range(100):
+                thing = [thing, thing] if isinstance(thing, list) else (thing, thing)
+            for field in self.made_of(thing):
+                self.assertIs(type(field), type(thing))
+                self.assertEqual(len(field), 2)
+
     def test_a_later_change_does_not_show(self):
         thing = [1, ([2],), {"a": [3]}]
         made = [errors.NoGoal(thing), errors.NoDeed(thing)]
