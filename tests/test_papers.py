@@ -301,6 +301,32 @@ class PaperTest(unittest.TestCase):
         equal = [("same", var(f"n{place}"), var(f"n{place + 1}")) for place in range(3)]
         self.assert_true((), goal(names, equal, ("same", var("n0"), var("n3"))), 100)
 
+    def test_expressions_as_deep_as_they_may_be(self):
+        names = [P, ("n", ("num", 15)), S, ("m", ("map", "jobs", JOB)), J]
+        inner = {word: var("p") for word in ("not", "and", "if", "each", "any")}
+        for number in range(99):
+            inner["not"] = ("not", inner["not"])
+            inner["and"] = ("and", var("p"), inner["and"])
+            inner["if"] = ("if", var("p"), inner["if"], var("p"))
+            inner["each"] = ("each", f"x{number}'", TRUTH, inner["each"])
+        for number in range(49):
+            inner["any"] = ("any", f"x{number}", TRUTH, ("and", var(f"x{number}"), inner["any"]))
+        total, some, table, by_put, by_all = var("n"), var("s"), var("m"), var("j"), var("j")
+        for _ in range(98):
+            total, some, table = ("add", total, var("n")), ("both", some, var("s")), ("put", table, var("j"), var("j"))
+        for _ in range(49):
+            by_put, by_all = ("at", ("put", var("m"), by_put, var("j")), elem("a")), ("at", ("all", "jobs", by_all),
+                var("j"))
+        inner.update({"add": less_than(total, num(9)), "both": ("within", some, var("s")),
+                      "put": ("same", table, var("m")),
+                      "at": ("same", by_put, var("j")), "all": ("same", by_all, var("j"))})
+        for word, wish in inner.items():
+            with self.subTest(word):
+                thing = goal(names, [], wish)
+                self.assertIsNone(need_goal(CARRIERS, thing))
+                assert_told = self.assert_true if word in ("both", "all") else self.assert_broken
+                assert_told(CARRIERS, thing)
+
     def test_a_paper_as_deep_as_there_are_cells(self):
         maps = [(f"m{number}", ("map", "four", TRUTH)) for number in range(60)]
         carriers = (("four", ("a", "b", "c", "d")),)
