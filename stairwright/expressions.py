@@ -103,7 +103,7 @@ def is_goal_name(thing):
     return is_name(thing)
 
 
-class _Reading:
+class Reading:
     """The going through one thing that may be an EXPRESSION, and how many EXPRESSIONS were met so far."""
 
     def __init__(self, carriers, context, in_goal):
@@ -192,23 +192,23 @@ class _Reading:
 
 def sort_of(carriers, context, thing):
     """The SORT of an EXPRESSION of the CONTEXT; BadExpression of anything else."""
-    return _Reading(carriers, context, False).sort_at(thing, {}, 1)
+    return Reading(carriers, context, False).sort_at(thing, {}, 1)
 
 
 def sort_inside(carriers, context, bound, thing):
     """The SORT of a good EXPRESSION within each and any by whose NAMES bound has the SMALL TYPES."""
     sorts = {name: sort_of_type(bound[name]) for name in bound}
-    return _Reading(carriers, context, True).sort_at(thing, sorts, 1)
+    return Reading(carriers, context, True).sort_at(thing, sorts, 1)
 
 
 def is_of(carriers, context, thing, sort):
     """Whether it's an EXPRESSION of the CONTEXT that has the SORT."""
-    return _is_read_as(_Reading(carriers, context, False), thing, sort)
+    return _is_read_as(Reading(carriers, context, False), thing, sort)
 
 
 def is_goal_truth(carriers, context, thing):
     """Whether it's a truth as GOALS may have them: greater, and with "'" behind NAMES."""
-    return _is_read_as(_Reading(carriers, context, True), thing, "truth")
+    return _is_read_as(Reading(carriers, context, True), thing, "truth")
 
 
 def _is_read_as(reading, thing, sort):

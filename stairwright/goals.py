@@ -57,10 +57,10 @@ def _goals_of_level(development, level):
     model = development[1][level]
     above = development[1][level - 1] if level > 0 else None
     start_above = None if above is None else _start_as_deed(above)
-    goals = _Doing(development, level, _start_as_deed(model), start_above).goals()
+    goals = Doing(development, level, _start_as_deed(model), start_above).goals()
     for deed in model[4]:
         deed_above = None if deed[1] is None else deed_called(above, deed[1])
-        goals.extend(_Doing(development, level, deed, deed_above).goals())
+        goals.extend(Doing(development, level, deed, deed_above).goals())
     if above is not None:
         goals.append(_live_goal(development, level))
     return goals
@@ -109,7 +109,7 @@ def _within_num(expression, most):
     return ("and", ("most", ("num", 0), expression), ("most", expression, ("num", most)))
 
 
-class _Doing:
+class Doing:
     """A DEED, or the START as one, and the DEED ABOVE it where it has one."""
 
     def __init__(self, development, level, deed, above):

@@ -54,7 +54,7 @@ def fault_of(carriers, models, level):
     model = models[level]
     if not has_form(carriers, model) or model[0] in first_things(models[:level]):
         return ("form", None)
-    look = _Level(carriers, models, level)
+    look = Level(carriers, models, level)
     number = look.bad_variable()
     if number is not None:
         return ("variable", number)
@@ -69,7 +69,7 @@ def fault_of(carriers, models, level):
     return None if look.has_good_variant() else ("variant", None)
 
 
-class _Level:
+class Level:
     """A MODEL that has its form, and what those ABOVE it say of it."""
 
     def __init__(self, carriers, models, level):

@@ -12,7 +12,7 @@ from stairwright.worths import worth
 def check_paper(carriers, goal, paper):
     """How many splits a PAPER of the GOAL has; BadCarriers, BadGoal, BadPaper."""
     need_goal(carriers, goal)
-    check = _Check(carriers, goal)
+    check = Check(carriers, goal)
     many = 0
     # A list and no recursion: a PAPER may be as deep as there are CELLS.
     waiting = [(0, None, None, paper)]
@@ -39,7 +39,7 @@ def check_break(carriers, goal, state):
     return not worth(carriers, wish, state)
 
 
-class _Check:
+class Check:
     """What is known at the place of a PAPER that is looked at."""
 
     def __init__(self, carriers, goal):

@@ -16,7 +16,7 @@ FIGURES_OF = (0, 0, 100, 158, 200, 232, 258, 281, 300, 317, 332, 346, 358, 370, 
 MOST_LOOKS = 5000
 
 
-class _Split:
+class Split:
     """A CELL that is split, and what has come of its VALUES so far."""
 
     def __init__(self, place, waiting, mark):
@@ -66,7 +66,7 @@ class Search:
                 self.many += 1
                 if self.many > self.most:
                     return False
-                self.splits.append(_Split(self.chosen(), self.waiting, len(self.trail)))
+                self.splits.append(Split(self.chosen(), self.waiting, len(self.trail)))
             elif len(self.splits) == 0:
                 self.told_paper = done[0]
                 return True

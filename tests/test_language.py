@@ -9,6 +9,8 @@ from pathlib import Path
 PACKAGE = Path(__file__).resolve().parent.parent / "stairwright"
 BARRED = {"register", "mro", "elements", "open", "input", "law", "version_info", "with_traceback", "add_note", "eval",
           "exec", "globals", "locals", "vars", "type", "typing", "dir", "id", "compile", "delattr"}
+BARRED_AHEAD = (r"^_(wall|pe_|dcw_|enum_|cm_|twin_re_|lay_|law_|stub_|sre|WallAttr)|"
+                r"^_(cold|tuplegetter|outside|record|written_out|member_names)[0-9_]*$")
 LIBRARY = {"heapq", "math", "itertools", "collections", "__future__"}
 BUILTINS = set("""len range enumerate zip min max sum abs sorted reversed int str bool bytes list tuple dict set
     frozenset isinstance ord repr any all divmod pow getattr hasattr setattr map iter next super Exception ValueError
@@ -25,6 +27,12 @@ def files():
 
 def trees():
     return [(path, ast.parse(path.read_text("ascii"))) for path in files()]
+
+
+def names_of(node):
+    """The names that it gives or reads, those of attributes, arguments and imports, too."""
+    found = [getattr(node, field, None) for field in ("id", "attr", "arg", "name", "asname")]
+    return [name for name in found if isinstance(name, str)]
 
 
 def functions():
@@ -83,6 +91,20 @@ class LanguageTest(unittest.TestCase):
                          if isinstance(getattr(node, field, None), str)}
             with self.subTest(path.name):
                 self.assertEqual(used & BARRED, set())
+
+    def test_plain_names(self):
+        # Rule L12: a class's name begins with a letter; others may begin with one underscore.
+        for path, tree in trees():
+            for node in ast.walk(tree):
+                for name in names_of(node):
+                    with self.subTest(f"{path.name}: {name}", line=getattr(node, "lineno", None)):
+                        self.assertRegex(name, r"^(_|_?[A-Za-z][A-Za-z0-9_]*|__(init|eq|repr|len)__)$")
+                        self.assertNotRegex(name, BARRED_AHEAD)
+                if isinstance(node, ast.ClassDef):
+                    with self.subTest(f"{path.name}: class {node.name}", line=node.lineno):
+                        self.assertRegex(node.name, r"^[A-Za-z][A-Za-z0-9_]*$")
+                if isinstance(node, ast.Name) and isinstance(node.ctx, ast.Load):
+                    self.assertNotEqual(node.id, "_", path.name)
 
     def test_any_and_all_take_lists(self):
         # Rule L7: a class of the package is to have an __eq__.
