@@ -54,16 +54,22 @@ def _has_like(goals, goal):
 
 
 def _goals_of_level(development, level):
-    model = development[1][level]
-    above = development[1][level - 1] if level > 0 else None
-    start_above = None if above is None else _start_as_deed(above)
-    goals = Doing(development, level, _start_as_deed(model), start_above).goals()
-    for deed in model[4]:
-        deed_above = None if deed[1] is None else deed_called(above, deed[1])
-        goals.extend(Doing(development, level, deed, deed_above).goals())
-    if above is not None:
+    goals = []
+    for name in ["start", *first_things(development[1][level][4])]:
+        goals.extend(doing_of(development, level, name).goals())
+    if level > 0:
         goals.append(_live_goal(development, level))
     return goals
+
+
+def doing_of(development, level, name):
+    """The DEED of that NAME with the one ABOVE it, or the START called "start"."""
+    model = development[1][level]
+    above = development[1][level - 1] if level > 0 else None
+    if name == "start":
+        return Doing(development, level, _start_as_deed(model), None if above is None else _start_as_deed(above))
+    deed = deed_called(model, name)
+    return Doing(development, level, deed, None if deed[1] is None else deed_called(above, deed[1]))
 
 
 def _start_as_deed(model):
@@ -148,6 +154,10 @@ class Doing:
 
     def told_after(self, name):
         return self.after.get(name, ("var", name))
+
+    def picked(self, name):
+        """What a PARAM of the DEED ABOVE is."""
+        return self.helps.get(name, ("var", name))
 
     def goals(self):
         """A list of all its GOALS."""

@@ -6,8 +6,9 @@ which few VALUES are open. What a PAPER rests on, the CELLS that were looked at,
 for each: a split on whose CELL the PAPER of one VALUE doesn't rest is that PAPER itself.
 """
 
+from stairwright.states import value_of_cells
 from stairwright.tellers import Tellers, not_told
-from stairwright.types import cells_of, values_of
+from stairwright.types import values_of
 
 # A hundred times how many binary figures tell one of so many.
 FIGURES_OF = (0, 0, 100, 158, 200, 232, 258, 281, 300, 317, 332, 346, 358, 370, 381, 391, 400)
@@ -185,10 +186,4 @@ class Search:
         told = {}
         for cell, worths, fact in zip(self.cells, self.worths_at, self.known):
             told[cell] = worths[0] if fact is None else fact
-        return {name: self.value_of(name, kind, told) for name, kind in self.typed_names}
-
-    def value_of(self, name, kind, told):
-        cells = [cell for cell, _ in cells_of(self.carriers, name, kind)]
-        if kind[0] == "some":
-            return tuple([cell[1] for cell in cells if told[cell]])
-        return tuple([told[cell] for cell in cells]) if kind[0] == "map" else told[cells[0]]
+        return {name: value_of_cells(self.carriers, name, kind, told) for name, kind in self.typed_names}

@@ -1,6 +1,6 @@
 """States: what they are, and what they tell of their cells."""
 
-from stairwright.types import is_value
+from stairwright.types import cells_of, is_value
 
 
 def is_state(carriers, names, thing):
@@ -11,3 +11,11 @@ def is_state(carriers, names, thing):
         if name not in thing or not is_value(carriers, kind, thing[name]):
             return False
     return True
+
+
+def value_of_cells(carriers, name, kind, told):
+    """The VALUE of a NAME of that TYPE, by the VALUES of its CELLS."""
+    cells = [cell for cell, _ in cells_of(carriers, name, kind)]
+    if kind[0] == "some":
+        return tuple([cell[1] for cell in cells if told[cell]])
+    return tuple([told[cell] for cell in cells]) if kind[0] == "map" else told[cells[0]]
