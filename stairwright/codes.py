@@ -33,7 +33,7 @@ def is_code(thing):
 
 
 def is_order(thing, many):
-    """Whether it's an ORDER of a CODE of so many."""
+    """Whether it's an ORDER of a CODE of so many; of any one where it's None."""
     parts = PARTS.get(word_of(thing))
     if parts is None or len(thing) != len(parts) + 1:
         return False
@@ -46,7 +46,7 @@ def _is_part(thing, kind, many):
     if kind == "box":
         return 0 <= thing < MOST_BOXES
     if kind == "place":
-        return 0 <= thing < many
+        return thing >= 0 and (many is None or thing < many)
     return kind == "number" or thing >= 0
 
 

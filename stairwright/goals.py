@@ -19,7 +19,11 @@ def goals_of(development):
 
 def goal_of(development, goal):
     """The GOAL of that ID; BadModel, NoGoal."""
-    goals = goals_of(development)
+    return goal_among(goals_of(development), goal)
+
+
+def goal_among(goals, goal):
+    """The one of these GOALS that has that ID; NoGoal."""
     if _is_id(goal):
         for found in goals:
             if found[0] == goal:

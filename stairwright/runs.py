@@ -22,6 +22,11 @@ def following(carriers, model, state):
     return [(name, worths, after) for name, worths, choices in ways for after in _states_by(choices)]
 
 
+def has_next(carriers, model, state):
+    """Whether there is any NEXT one at a STATE: they aren't all made."""
+    return any([_how_many(choices) > 0 for _, _, choices in _ways(carriers, model, state)])
+
+
 def is_run(carriers, model, thing):
     """Whether it's a RUN of the MODEL."""
     if not is_tuple_of(thing, 2, 2) or not is_tuple_of(thing[1], 0, MOST_STEPS):

@@ -25,7 +25,8 @@ TOP = (
 )
 LOW = (
     "low", (("k", ("num", 5)), ("f", ("truth",)), ("z", ("num", 3)), ("c", ("num", 9)), ("r", JOB)),
-    (("glue", ("same", var("f"), ("same", var("s"), elem("a")))), ("sum", ("same", var("x"), ("add", var("k"), num(2))))),
+    (("glue", ("same", var("f"), ("same", var("s"), elem("a")))),
+     ("sum", ("same", var("x"), ("add", var("k"), num(2))))),
     ((("be", "k", num(0)), ("be", "f", YES), ("be", "z", num(0)), ("be", "c", num(0)), ("from", "r", ALL_JOBS)),
      (("s", elem("a")),)),
     (

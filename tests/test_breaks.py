@@ -133,7 +133,8 @@ class RunThatBreaksTest(unittest.TestCase):
 
     def test_more_states_than_are_looked_at(self):
         names = "abcdef"
-        ups = tuple(("up" + name, None, (), (("less", var(name), num(15)),), (("be", name, ("add", var(name), num(1))),),
+        ups = tuple(("up" + name, None, (), (("less", var(name), num(15)),),
+                     (("be", name, ("add", var(name), num(1))),),
                      ()) for name in names)
         great = ((), ((
             "one", tuple((name, ("num", 15)) for name in names),
@@ -164,7 +165,8 @@ class RunThatBreaksTest(unittest.TestCase):
                 if goal[0][1] in ("start", None):
                     self.assert_no_goal(development, goal[0])
         for thing in odd_things() + [
-                (1, "up", "stays", "other"), (0, "up", "stays", "glue"), (1, "up", "has", "turns"), (1, "up", "live", None),
+                (1, "up", "stays", "other"), (0, "up", "stays", "glue"), (1, "up", "has", "turns"),
+            (1, "up", "live", None),
                 (True, "up", "stays", "glue"), [1, "up", "stays", "glue"], (1, "up", "stays"), goals_of(LAMP)[2]]:
             self.assert_no_goal(LAMP, thing)
 

@@ -55,7 +55,8 @@ class MadeCodeTest(CodeTest):
                 self.assertEqual(machine.boxes(len(numbers)), numbers)
 
     def test_written_out(self):
-        self.assertEqual(plain_marks((), LAMP[1][1], 5), [(0, (0,)), (1, (1,)), (2, (2,)), (1, (3,)), (3, (0,)), (1, (1,))])
+        self.assertEqual(plain_marks((), LAMP[1][1], 5),
+                         [(0, (0,)), (1, (1,)), (2, (2,)), (1, (3,)), (3, (0,)), (1, (1,))])
         machine = Machine(made_code(LAMP))
         self.assertEqual([(machine.to_mark(), machine.boxes(1)) for _ in range(6)],
                          [(0, (0,)), (1, (1,)), (2, (2,)), (1, (3,)), (3, (0,)), (1, (1,))])
@@ -89,7 +90,8 @@ class MadeCodeTest(CodeTest):
     def test_all_actions_read_what_is_ahead(self):
         kinds = [("num", 9), ("num", 9), ("num", 9)]
         variables = list(zip("xyz", kinds))
-        for texts in [("y", "x", "z"), ("y", "z", "x"), ("z", "x", "y"), ("x", "x", "x"), ("z", "y", "x"), ("y", "y", "z")]:
+        for texts in [("y", "x", "z"), ("y", "z", "x"), ("z", "x", "y"), ("x", "x", "x"), ("z", "y", "x"),
+                      ("y", "y", "z")]:
             one = model_of(variables, [num(1), num(2), num(3)], deed("a", [], zip("xyz", map(var, texts))))
             self.assert_marks((), one)
         three = model_of([(name, ("map", "four", ("num", 15))) for name in "xy"] + [("s", ("some", "four"))],
@@ -101,14 +103,17 @@ class MadeCodeTest(CodeTest):
 
     def test_values_beyond_their_types(self):
         one = model_of([("n", ("num", 3)), ("m", ("map", "two", ("num", 2)))], [num(9), ("all", "two", num(77))], deed(
-            "a", [], [("n", ("mul", var("n"), ("sub", num(1), num(3)))), ("m", ("put", var("m"), elem("q"), var("n")))]))
+            "a", [], [("n", ("mul", var("n"), ("sub", num(1), num(3)))),
+                      ("m", ("put", var("m"), elem("q"), var("n")))]))
         self.assert_marks(FOUR_SETS, one, 12)
 
     def test_names_of_each_and_any(self):
         for word in ("each", "any"):
             for kind in (("num", 1), ("num", 15), ("truth",), FOUR, ("one", "one1")):
-                same = ("same", var("x"), {"num": num(1), "truth": YES, "one": elem("a" if kind == FOUR else "z")}[kind[0]])
-                for inner in (same, ("not", same), YES, NO, ("any", "x", kind, same), ("each", "x", ("truth",), var("x")),
+                same = ("same", var("x"), {"num": num(1), "truth": YES,
+                                           "one": elem("a" if kind == FOUR else "z")}[kind[0]])
+                for inner in (same, ("not", same), YES, NO, ("any", "x", kind, same),
+                              ("each", "x", ("truth",), var("x")),
                               ("and", ("any", "x", ("num", 2), ("same", var("x"), var("n"))), same),
                               ("and", same, ("any", "y", kind, ("same", var("x"), var("y")))),
                               ("each", "y", kind, ("or", ("same", var("y"), var("x")), ("less", num(0), var("n"))))):
@@ -130,7 +135,8 @@ class MadeCodeTest(CodeTest):
         truths += [("same", one, other) for one in some[:8] for other in some[:8]]
         truths += [(word, one, other) for word in ("and", "or", "then") for one in truths[:4] for other in truths[:4]]
         truths += [("not", part) for part in truths[:6]] + [("same", YES, var("t")), ("same", var("e"), elem("a"))]
-        ones = [elem("a"), var("e"), ("if", var("t"), elem("b"), var("e")), ("at", ("all", "four", elem("c")), var("e"))]
+        ones = [elem("a"), var("e"), ("if", var("t"), elem("b"), var("e")),
+                ("at", ("all", "four", elem("c")), var("e"))]
         kinds = [("s", ("some", "four"), some), ("n", ("num", 15), nums), ("m", ("map", "four", ("num", 15)), maps),
                  ("t", ("truth",), truths), ("e", FOUR, ones)]
         variables = [row[:2] for row in kinds]
@@ -138,7 +144,8 @@ class MadeCodeTest(CodeTest):
                   elem("c")]
         for name, _, expressions in kinds:
             for at in range(0, len(expressions), 6):
-                deeds = [deed(f"d{number}", [], [(name, ("if", var("t"), part, part))] if number < 2 else [(name, part)])
+                deeds = [deed(f"d{number}", [], [(name, ("if", var("t"), part, part))] if number < 2 else [(name,
+                                                                                                            part)])
                          for number, part in enumerate(expressions[at:at + 6])]
                 for number in range(len(deeds)):
                     # Each of them first in turn.
@@ -158,7 +165,8 @@ class MadeCodeTest(CodeTest):
             some = (("both", "either", "but")[number // 3 - number // 9 * 3], EVERY, some)
         one = model_of([("s", ("some", "four"))] + [(f"m{n}", ("map", "four", ("num", 3))) for n in range(5)],
                        [("just", elem("c"))] + [("all", "four", num(0))] * 5,
-                       deed("a", [("in", elem("a"), some)], [("s", some)]), deed("b", [], [("s", ("but", EVERY, var("s")))]))
+                       deed("a", [("in", elem("a"), some)], [("s", some)]),
+                       deed("b", [], [("s", ("but", EVERY, var("s")))]))
         self.assert_marks(FOUR_SETS, one)
 
     def test_only_start_guards_and_actions_matter(self):
@@ -202,11 +210,13 @@ class HowGreatTest(CodeTest):
         cases.append((long_one(lambda inner: ("put", inner, elem("d"), num(1)), var("v"), 20), "v", table, (
             "all", "four", num(0))))
         for kind in (("num", 15), FOUR):
-            cases.append((long_one(lambda inner, kind=kind: ("any", "x", kind, ("and", ("same", var("x"), var("x")), inner)),
+            cases.append((long_one(lambda inner, kind=kind: ("any", "x", kind,
+                                                             ("and", ("same", var("x"), var("x")), inner)),
                                    var("v"), 12), "v", truth, YES))
         cases.append((long_one(lambda inner: ("or", ("within", EVERY, EVERY), inner), var("v"), 25), "v", truth, NO))
         cases.append((long_one(lambda inner: ("then", ("in", elem("d"), EVERY), inner), var("v"), 25), "v", truth, NO))
-        cases.append((long_one(lambda inner: ("if", ("same", EVERY, EVERY), inner, EVERY), var("v"), 25), "v", some, NONE))
+        cases.append((long_one(lambda inner: ("if", ("same", EVERY, EVERY), inner, EVERY), var("v"), 25), "v", some,
+                      NONE))
         for expression, name, kind, begin in cases:
             parts = parts_of(expression)
             guards = [YES] * 4

@@ -254,7 +254,8 @@ class RunOfTest(unittest.TestCase):
     def test_values_of_each_type(self):
         model = ("one", (("s", ("some", "jobs")), ("j", ("one", "jobs")), ("m", ("map", "jobs", ("one", "spots"))),
                          ("t", ("truth",)), ("k", ("map", "spots", ("num", 3)))), (),
-                 ((("be", "s", ("every", "jobs")), ("be", "j", ("elem", "c")), ("be", "m", ("all", "jobs", ("elem", "left"))),
+                 ((("be", "s", ("every", "jobs")), ("be", "j", ("elem", "c")),
+                   ("be", "m", ("all", "jobs", ("elem", "left"))),
                    ("be", "t", YES), ("be", "k", ("all", "spots", num(2)))), ()),
                  (("go", None, (), (), (("be", "s", ("but", var("s"), ("just", var("j")))),
                                         ("be", "m", ("put", var("m"), ("elem", "b"), ("elem", "right")))), ()),), None)
@@ -288,7 +289,8 @@ class RunOfTest(unittest.TestCase):
             (STOP,), (("set", 0, 1),), (("mark", 1),), (("mark", 1), ("mark", 0)), (("set", 0, 4), ("mark", 0)),
             (("set", 0, -1), ("mark", 0)), (("set", 0, 1), ("mark", 0)),
             up_code(("mark", 0)), up_code(("mark", 3)), up_code(("mark", 1)), up_code(("mark", 2)),
-            up_code(("set", 0, 2), ("mark", 1)), up_code(("set", 0, 1), ("mark", 2)), up_code(("set", 0, 4), ("mark", 1)),
+            up_code(("set", 0, 2), ("mark", 1)), up_code(("set", 0, 1), ("mark", 2)),
+            up_code(("set", 0, 4), ("mark", 1)),
             up_code(("set", 0, 1), ("mark", 1), ("mark", 10 ** 3999)),
         ]:
             self.assert_refused(BadRun, UP, code)
