@@ -46,13 +46,9 @@ def _is_formed(development, run, thing):
     if not is_tuple_of(thing[1], len(run[1]), len(run[1])):
         return False
     for row in thing[1]:
-        if not is_tuple_of(row, many, many) or not all([_is_formed_step(part) for part in row]):
+        if not is_tuple_of(row, many, many) or not all([is_tuple_of(part, 3, 3) for part in row]):
             return False
     return True
-
-
-def _is_formed_step(thing):
-    return is_tuple_of(thing, 3, 3) and (thing[0] is None or isinstance(thing[0], str))
 
 
 def _are_runs(development, run, account):

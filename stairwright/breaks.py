@@ -75,7 +75,7 @@ class Hunt:
         return None
 
     def meet(self, state, number, step):
-        key = tuple([state[name] for name in sorted(state)])
+        key = tuple([state[name] for name in sorted(list(state))])
         if key in self.seen:
             return
         self.seen[key] = True

@@ -3,7 +3,7 @@
 from stairwright.book import Book
 from stairwright.codes import made_code
 from stairwright.ends import last_states, upheld
-from stairwright.errors import BadChange, BadModel, BadRun, BadText, Broken, NoGoal, NotMade, TooGreat
+from stairwright.errors import BadChange, BadGoal, BadModel, BadRun, BadText, Broken, NoGoal, NotMade, TooGreat
 from stairwright.machine import run_of
 from stairwright.papercheck import check_paper
 from stairwright.papers import break_of
@@ -182,6 +182,8 @@ class Desk:
             return "badrun"
         except NotMade:
             return "notmade"
+        except BadGoal:
+            return "badgoal"
         except NoGoal:
             return "nogoal"
         except TooGreat:

@@ -1,12 +1,12 @@
 """How what is written is read, line by line."""
 
-from stairwright.codes import PARTS, is_order
+from stairwright.codes import is_order
 from stairwright.errors import BadText
 from stairwright.expressions import BINDING, FIXED, HANGING
 from stairwright.limits import MOST_DEEP, MOST_PARTS, MOST_WRITTEN
 from stairwright.types import FIGURES, has_set, is_name, is_small, is_type
 from stairwright.writing import (action_line, deed_line, help_line, keeps_line, model_line, param_line, set_line,
-                                 var_line, variant_line, when_line, written_expression, written_order, written_type)
+                                 var_line, variant_line, when_line, written_expression, written_order)
 
 MOST_NUMBER_FIGURES = 4000
 
@@ -39,12 +39,6 @@ class Words:
         self.place += 1
         return self.words[self.place - 1]
 
-    def take_number(self):
-        number = number_of(self.take())
-        if number is None:
-            self.refuse()
-        return number
-
     def take_name(self):
         name = self.take()
         if not is_name(name):
@@ -64,10 +58,10 @@ class Words:
             self.refuse()
         return found
 
-    def whole_type(self, is_kind):
-        """The TYPE of that kind, which has to be written just so."""
+    def first_type(self, is_kind):
+        """The TYPE of that kind that the text begins with."""
         found = self.take_type()
-        if not is_kind(self.carriers, found) or written_type(found) != self.text:
+        if not is_kind(self.carriers, found):
             self.refuse()
         return found
 
@@ -81,7 +75,7 @@ class Words:
 
     def take_small(self, word):
         if word == "num":
-            return (word, self.take_number())
+            return (word, number_of(self.take()))
         return (word, self.take_set()) if word == "one" else (word,)
 
     def take_expression(self, deep):
@@ -138,6 +132,7 @@ class Line:
             self.kind, self.parts, written = self.read_inner(text[2:])
         else:
             self.kind, self.parts, written = self.read_outer()
+        # What reads the parts lets more by than what is written just so.
         if written != text:
             self.refuse()
 
@@ -173,7 +168,7 @@ class Line:
             self.need_names(row[1])
             return (word, row, set_line(*row))
         if word == "var":
-            row = (name, Words(self.carriers, told, self.number).whole_type(is_type))
+            row = (name, Words(self.carriers, told, self.number).first_type(is_type))
             return (word, row, var_line(*row))
         if word != "keeps":
             self.refuse()
@@ -194,7 +189,7 @@ class Line:
         name, _, told = rest.partition(": ")
         self.need_names([name])
         if word == "param":
-            row = (name, Words(self.carriers, told, self.number).whole_type(is_small))
+            row = (name, Words(self.carriers, told, self.number).first_type(is_small))
             return (word, row, param_line(*row))
         if word != "help":
             self.refuse()
@@ -216,6 +211,6 @@ def order_of(text, line):
             raise BadText(line)
         numbers.append(-number if part.startswith("-") else number)
     order = (word, *numbers)
-    if word not in PARTS or not is_order(order, None) or written_order(order) != text:
+    if not is_order(order, None) or written_order(order) != text:
         raise BadText(line)
     return order

@@ -316,6 +316,55 @@ class CheckAccountTest(unittest.TestCase):
                           ((1, 1, 5), ("sub", num(8), ("mul", num(2), var("c"))))]:
             self.assertIs(check_account(changed(GOOD, path, new), run, account), True)
 
+    def test_an_account_of_another_run(self):
+        both = ((), (("one", (("n", ("num", 3)),), (), ((("be", "n", num(0)),), ()), (
+            ("up", None, (), (), (("be", "n", ("add", var("n"), num(1))),), ()),
+            ("down", None, (), (), (("be", "n", ("sub", var("n"), num(1))),), ()),
+            ("rise", None, (), (), (("be", "n", ("add", var("n"), num(1))),), ())), None),))
+        runs = [({"n": 0}, ((name, (), {"n": 1}), (other, (), {"n": 2}))) for name in ("up", "rise")
+                for other in ("up", "rise")]
+        runs.append(({"n": 0}, (("up", (), {"n": 1}), ("down", (), {"n": 0}))))
+        for run in runs:
+            for other in runs:
+                self.assertIs(check_account(both, run, account_of(both, other)), run == other)
+
+    def test_a_kept_variable_that_is_not_the_same(self):
+        # Above it's poured twice as fast: that is a RUN there, too.
+        run = (drip(0), TANK_RUN[1][:4])
+        account = account_of(TANK, run)
+        faster = tuple((("pour", (2, False), fill(2 * number)), row[1]) for number, row in enumerate(account[1], 1))
+        self.assertIs(check_account(TANK, run, account), True)
+        self.assertIs(check_account(TANK, run, (account[0], faster)), False)
+        self.assertIs(check_account(TANK, run, (account[0], account[1][:-1] + faster[-1:])), False)
+        ahead = ({"last": "a", "done": ()}, *JOBS_ACCOUNT[0][1:])
+        self.assertIs(check_account(JOBS, (JOBS_RUN[0], ()), (JOBS_ACCOUNT[0], ())), True)
+        self.assertIs(check_account(JOBS, (JOBS_RUN[0], ()), (ahead, ())), False)
+
+    def test_a_new_deed_below_a_model_with_a_variant(self):
+        low = ("low", (("turns", ("num", 3)), ("wait", ("num", 2))), (), (
+            (("be", "turns", num(0)), ("be", "wait", num(2))), ()), (
+            ("tick", None, (), (("less", num(0), var("wait")),), (("be", "wait", ("sub", var("wait"), num(1))),), ()),
+            ("go", "up", (), (("same", var("wait"), num(0)), ("same", var("turns"), num(0))),
+             (("be", "turns", num(1)), ("be", "wait", num(2))), ())), var("wait"))
+        development = ((), (*LAMP[1], low))
+        run = run_by((), low, [0] * 6)
+        account = account_of(development, run)
+        self.assertEqual([row[2][0] for row in account[1]], ["tick", "tick", "go", "tick", "tick"])
+        self.assertEqual([row[1][0] for row in account[1]], [None, None, "up", None, None])
+        self.assertEqual(account[1][3], ((None, (), lamp(False)), (None, (), turns(1)), run[1][3]))
+        self.assertEqual((account, None, None), plain_account(development, run))
+        self.assertIs(check_account(development, run, account), True)
+
+    def test_by_none_what_nothing_else_tells(self):
+        free = fault((IN_LOW + (2,), ()))
+        run = run_by(free[0], free[1][1], [0] * 8)
+        account = account_of(free, run)
+        ahead = account[1][4][0][2]
+        self.assertEqual(account[1][4][0][0], None)
+        other = {"a": "b", "b": "a"}[ahead["s"]]
+        for number in (4, 5, 6):
+            self.assertIs(check_account(free, run, changed(account, (1, number, 0, 2), {**ahead, "s": other})), False)
+
     def test_by_none_the_state_is_as_it_was(self):
         account = account_of(GOOD, run_by(GOOD[0], GOOD[1][1], [0] * 8))
         run = (account[0][1], tuple(row[1] for row in account[1]))

@@ -214,6 +214,17 @@ class ChangeTest(unittest.TestCase):
         other = changed(LAMP_MODEL, (0,), "bulb")
         self.assertEqual(self.assert_changes(LAMP, ("model", 0, other), ((), (other, DIAL_MODEL))), ())
 
+    def test_other_names(self):
+        # One VARIABLE more, of which no HYP and no WISH says anything.
+        other = changed(changed(LAMP_MODEL, (1,), (*LAMP_MODEL[1], ("dim", ("truth",)))), (3, 0), (
+            *LAMP_MODEL[3][0], ("be", "dim", NO)))
+        anew = self.assert_changes(LAMP, ("model", 0, other), ((), (other, DIAL_MODEL)))
+        self.assertEqual(anew, tuple(which for which in ALL_LAMP if which[1] != "start"))
+        # Another TYPE.
+        wide = changed(DIAL_MODEL, (1, 0, 1), ("num", 4))
+        self.assertIn((1, "snap", "stays", "glue"),
+                      self.assert_changes(LAMP, ("model", 1, wide), ((), (LAMP_MODEL, wide))))
+
     def test_more_and_fewer(self):
         top = ((), (LAMP_MODEL,))
         self.assertEqual(self.assert_changes(top, ("more", DIAL_MODEL), LAMP), ALL_LAMP)
@@ -545,8 +556,13 @@ class CopyTest(unittest.TestCase):
         self.assertEqual((other.still_open(), len(book.still_open()) > 0), ((), True))
         self.assertEqual(book.log()[-1], ("undo", 1))
         self.assertIs(book.redo(), True)
-        self.assertEqual(book.job([]), [])
-        self.assertEqual((book.log()[-1], other.log()[-1]), (("shut", 2, 0), ("undo", 0)))
+        self.assertEqual((book.job([]), other.log()[-1]), ([], ("undo", 0)))
+        other.job([])
+        other.job([])
+        self.assertEqual((book.log()[-1], other.log()[-1]), (("shut", 2, 0), ("shut", 3, 0)))
+        third = other.copy()
+        third.job([])
+        self.assertEqual((third.log()[-1], other.log()[-1]), (("shut", 4, 0), ("shut", 3, 0)))
 
     def test_papers_of_a_copy(self):
         book = Book(LAMP)

@@ -230,6 +230,30 @@ class HowGreatTest(CodeTest):
             self.assertLessEqual(parts_of_model(one), 250)
             self.assertLessEqual(self.assert_marks(FOUR_SETS, one, 1), 5000)
 
+    def test_as_many_boxes_as_there_are(self):
+        # All GUARDS and ACTIONS together would need more, one at a time needs but a few.
+        deep = var("s")
+        for _ in range(12):
+            deep = ("either", ("both", EVERY, deep), ("but", NONE, ("just", var("e"))))
+        self.assertGreater(parts_of(deep), 80)
+        deeds = [deed(f"d{number}", [("in", var("e"), deep)] * 2, [("s", deep)]) for number in range(3)]
+        one = model_of([("s", ("some", "four")), ("e", FOUR)], [EVERY, elem("b")], *deeds)
+        self.assert_marks(FOUR_SETS, one, 3)
+        truth = var("t")
+        for _ in range(24):
+            truth = ("and", ("within", EVERY, EVERY), truth)
+        deeds = [deed(f"d{number}", [truth] * 3, [("t", truth)]) for number in range(2)]
+        one = model_of([("t", ("truth",))], [YES], *deeds)
+        self.assert_marks(FOUR_SETS, one, 3)
+
+    def test_names_that_nothing_asks_for(self):
+        # All VALUES are alike: to go through them would be more than the machine does.
+        for word in ("each", "any"):
+            truth = ("not", var("t"))
+            for number in range(20):
+                truth = (word, f"x{number}", ("num", 15), truth)
+            self.assert_marks((), model_of([("t", ("truth",))], [NO], deed("a", [], [("t", truth)])), 4)
+
     def test_too_great(self):
         long = long_one(lambda inner: ("put", inner, elem("d"), num(1)), var("v"), 27)
         great = ("both", *[nested_pairs(("either", EVERY, NONE), 6)] * 2)

@@ -74,6 +74,8 @@ class UpheldTest(unittest.TestCase):
                 self.assertEqual(account, account_of(development, run))
                 self.assertIs(is_upheld(development, (run, account, stopped), marks=marks), True)
             self.assertEqual(upheld(development), upheld(development, marks=20))
+            self.assertIs(is_upheld(development, upheld(development)), True)
+            self.assertIs(is_upheld(development, upheld(development, marks=20)), True)
 
     def test_more_marks_begin_with_fewer(self):
         for development in (LAMP, JOBS, COUNT):
@@ -171,8 +173,10 @@ class IsUpheldTest(unittest.TestCase):
             ("down", None, (), (("less", num(0), var("n")),), (("be", "n", ("sub", var("n"), num(1))),), ())), None),))
         run = (n(0), (("up", (), n(1)), ("down", (), n(0))))
         self.assertIs(is_upheld(both, (run, account_of(both, run), False), marks=2), False)
-        run = (n(0), (("up", (), n(1)), ("up", (), n(2))))
+        other, run = run, (n(0), (("up", (), n(1)), ("up", (), n(2))))
         self.assertIs(is_upheld(both, (run, account_of(both, run), False), marks=2), True)
+        self.assertIs(is_upheld(both, (other, account_of(both, run), False), marks=2), False)
+        self.assertIs(is_upheld(both, (run, account_of(both, other), False), marks=2), False)
 
     def test_accounts_that_are_not_led_by_helps(self):
         free = changed(SPOTS, (1, 1, 2), ())

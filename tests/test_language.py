@@ -2,6 +2,7 @@
 
 import ast
 import builtins
+import re
 import unittest
 import warnings
 from pathlib import Path
@@ -16,6 +17,47 @@ BUILTINS = set("""len range enumerate zip min max sum abs sorted reversed int st
     frozenset isinstance ord repr any all divmod pow getattr hasattr setattr map iter next super Exception ValueError
     TypeError KeyError IndexError LookupError ZeroDivisionError ArithmeticError OverflowError RuntimeError
     NotImplementedError AttributeError StopIteration NotImplemented""".split())
+WORDS_BARRED = set("""type typing typing_extensions enum Enum IntEnum StrEnum Flag IntFlag Generic Protocol ABC ABCMeta
+    namedtuple NamedTuple TypedDict TYPE_CHECKING abstractmethod dataclass overload contextmanager""".split())
+INTERFACE = """## stairwright/errors.py
+StairError BadCarriers BadType BadExpression BadState BadGoal BadPaper BadRun BadCode NotMade BadChange BadModel BadText
+Broken GreatError TooGreat MissError NoGoal NoDeed
+## stairwright/limits.py
+MOST_SETS MOST_ELEMENTS MOST_NUM MOST_PARTS MOST_DEEP MOST_MODELS MOST_VARIABLES MOST_INVARIANTS MOST_DEEDS MOST_SPLITS
+## stairwright/types.py
+is_name is_carriers need_carriers is_type is_small is_value elements_of values_of cells_of
+## stairwright/expressions.py
+sort_of is_of sort_of_type names_in bound_in put_in
+## stairwright/worths.py
+worth part_worth
+## stairwright/models.py
+need_development is_development kept_in variables_to deed_of is_made
+## stairwright/goals.py
+goals_of goal_of asked_anew
+## stairwright/papers.py
+need_goal paper_of break_of
+## stairwright/papercheck.py
+check_paper check_break
+## stairwright/runs.py
+starts following is_run run_by
+## stairwright/accounts.py
+account_of check_account
+## stairwright/breaks.py
+run_that_breaks part_to
+## stairwright/codes.py
+is_code made_code
+## stairwright/machine.py
+Machine Machine.to_mark Machine.boxes Machine.done Machine.has_stopped run_of
+## stairwright/ends.py
+upheld is_upheld
+## stairwright/texts.py
+expression_text model_text development_text code_text read_expression read_model read_development read_code
+## stairwright/book.py
+Book Book.job Book.undo Book.redo Book.development Book.goals Book.still_open Book.paper Book.show Book.try_all Book.log
+Book.open_jobs Book.copy Book.__eq__ Book.__len__ Book.__repr__
+## stairwright/desk.py
+Desk Desk.say
+"""
 METHODS = set("""append clear copy count endswith extend find get index insert isalnum isalpha isdigit islower isspace
     isupper items join keys ljust lower lstrip partition pop remove replace reverse rfind rjust rpartition rsplit
     rstrip setdefault split splitlines startswith strip update upper values zfill bit_length""".split())
@@ -150,6 +192,46 @@ class LanguageTest(unittest.TestCase):
         self.assertEqual(read - given - own - METHODS, set())
         of_builtins = {name for kind in (str, int, list, dict, set, bytes) for name in dir(kind)}
         self.assertEqual(given & of_builtins, set())
+
+    def test_methods_that_are_attributes_too(self):
+        # Rule L18.
+        for path, tree in trees():
+            for node in tree.body:
+                if isinstance(node, ast.ClassDef):
+                    names = [part.name for part in node.body if isinstance(part, ast.FunctionDef)]
+                    given = {part.attr for part in ast.walk(node)
+                             if isinstance(part, ast.Attribute) and isinstance(part.ctx, ast.Store)}
+                    with self.subTest(f"{path.name}: {node.name}"):
+                        self.assertEqual(len(names), len(set(names)))
+                        self.assertEqual(given & set(names), set())
+
+    def test_words_that_do_not_occur(self):
+        # Rule L17: in no string but docstrings.
+        for path, tree in trees():
+            notes = {id(node.body[0].value) for node in ast.walk(tree)
+                     if isinstance(node, (ast.Module, ast.ClassDef, ast.FunctionDef)) and node.body
+                     and isinstance(node.body[0], ast.Expr)}
+            for node in ast.walk(tree):
+                if isinstance(node, ast.Constant) and isinstance(node.value, str) and id(node) not in notes:
+                    with self.subTest(path.name, line=node.lineno):
+                        self.assertEqual(set(re.findall(r"[A-Za-z_]+", node.value)) & WORDS_BARRED, set())
+                        self.assertFalse(node.value.startswith("__") or node.value.endswith("._"))
+
+    def test_each_thing_of_the_interface_is_where_it_is_listed(self):
+        # Rules L5, L16.
+        listed = re.findall(r"^## stairwright/(\w+)\.py\n(.*?)(?=^## |\Z)", INTERFACE, re.M | re.S)
+        self.assertEqual(len(listed), 18)
+        for name, text in listed:
+            tree = ast.parse((PACKAGE / f"{name}.py").read_text("ascii"))
+            made = {node.name: node for node in tree.body if isinstance(node, (ast.FunctionDef, ast.ClassDef))}
+            made.update({node.targets[0].id: node for node in tree.body if isinstance(node, ast.Assign)})
+            for word in text.split():
+                top, _, method = word.partition(".")
+                with self.subTest(name, word=word):
+                    self.assertIn(top, made)
+                    if method:
+                        own = [part.name for part in made[top].body if isinstance(part, ast.FunctionDef)]
+                        self.assertIn(method, own)
 
     def test_is_and_signs(self):
         # Rules L20, L7, L27.

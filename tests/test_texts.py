@@ -174,6 +174,14 @@ class ExpressionTest(Refusing):
             self.assertEqual(read_expression((), expression_text(expression)), expression)
         for deep in (31, 32, 200, 5000):
             self.assert_refused(1, read_expression, (), "(not " * (deep - 1) + "yes" + ")" * (deep - 1))
+        for begin, end in [("(each x truth ", ")"), ("(any x one jobs ", ")"), ("(all jobs ", ")"), ("(in a ", ")"),
+                           ("(if yes ", " no)"), ("(put m a ", ")")]:
+            for deep in (2, 30, 31, 32, 200):
+                text = begin * (deep - 1) + "yes" + end * (deep - 1)
+                if deep <= 30:
+                    self.assertEqual(expression_text(read_expression(JOB_SETS, text)), text)
+                else:
+                    self.assert_refused(1, read_expression, JOB_SETS, text)
         for many in (1, 2, 3, 400, 599, 600):
             expression = of_parts(many)
             self.assertEqual(read_expression((), expression_text(expression)), expression)
