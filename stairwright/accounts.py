@@ -1,7 +1,7 @@
 """Accounts: a run of each model above a run of the lowest one, step by step."""
 
 from stairwright.errors import BadRun
-from stairwright.forms import first_things, is_tuple_of
+from stairwright.forms import is_tuple_of
 from stairwright.leading import Stair, state_of_all
 from stairwright.levels import deed_called
 from stairwright.models import kept_in, need_development, variables_to

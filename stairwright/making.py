@@ -142,26 +142,25 @@ class Making:
             self.write(inner, boxes)
             return
         boxes_ahead, bound_ahead = self.boxes_of, self.bound
-        value, last = self.new_boxes(2)
+        value = self.new_boxes(1)[0]
         self.boxes_of = {**boxes_ahead, name: [value]}
         self.bound = {**bound_ahead, name: kind}
-        self.order("set", value, 0)
+        # Down to the first VALUE, whose number is 0: a "none" tells by itself when it's reached.
+        self.order("set", value, len(values_of(self.carriers, kind)) - 1)
         again = len(self.orders)
         self.write(inner, boxes)
         found = self.order_later()
         if word == "any":
             out = self.order_later()
             self.none_from(found, boxes[0])
-        self.order("set", last, len(values_of(self.carriers, kind)) - 1)
-        self.order("less", last, value, last)
         ended = self.order_later()
-        self.order("add", value, value, self.numbers[1])
+        self.order("sub", value, value, self.numbers[1])
         self.order("jump", again)
         if word == "any":
             self.jump_from(out)
         else:
             self.none_from(found, boxes[0])
-        self.none_from(ended, last)
+        self.none_from(ended, value)
         self.boxes_of, self.bound = boxes_ahead, bound_ahead
 
     def write_choice(self, expression, boxes):

@@ -124,6 +124,21 @@ class LanguageTest(unittest.TestCase):
         bound |= {part.targets[0].id for part in tree.body if isinstance(part, ast.Assign)}
         self.assertLessEqual({part.name for part in node.names}, bound)
 
+    def test_no_two_files_import_from_each_other(self):
+        # Rule L16: nor through other files; and what is imported is read.
+        ahead = {}
+        for path, tree in trees():
+            imports = [node for node in ast.walk(tree) if isinstance(node, ast.ImportFrom)]
+            ahead[path.stem] = [node.module.partition(".")[2] for node in imports]
+            read = {node.id for node in ast.walk(tree) if isinstance(node, ast.Name)}
+            with self.subTest(path.name):
+                self.assertEqual({part.name for node in imports for part in node.names} - read, set())
+        while ahead:
+            ready = [name for name in ahead if not any(other in ahead for other in ahead[name])]
+            self.assertNotEqual(ready, [], sorted(ahead))
+            for name in ready:
+                del ahead[name]
+
     def test_names_that_are_not_used(self):
         # Rule L17.
         for path, tree in trees():
