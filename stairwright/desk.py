@@ -84,11 +84,11 @@ def _goals(book, words):
     return f"{len(book)} {len(book.still_open())}"
 
 
-def _open(book, words):
+def _all_open(book, words):
     return _ids_text(book.still_open())
 
 
-def _try(book, words):
+def _tried(book, words):
     return str(len(book.try_all()))
 
 
@@ -102,7 +102,7 @@ def _paper(book, words):
     return "open" if paper is None else str(check_paper(book.development()[0], goal, paper))
 
 
-def _break(book, words):
+def _broken_by(book, words):
     goal = _goal_in(book, words)
     state = break_of(book.development()[0], goal)
     if state is None:
@@ -133,8 +133,9 @@ def _log(book, words):
     return "none" if len(entries) == 0 else " ".join([str(part) for part in entries[-1]])
 
 
-ANSWERS = {"undo": _undo, "redo": _redo, "fewer": _fewer, "goals": _goals, "open": _open, "try": _try, "show": _show,
-           "paper": _paper, "break": _break, "run": _run, "account": _account, "code": _code, "log": _log}
+ANSWERS = {"undo": _undo, "redo": _redo, "fewer": _fewer, "goals": _goals, "open": _all_open, "try": _tried,
+           "show": _show, "paper": _paper, "break": _broken_by, "run": _run, "account": _account, "code": _code,
+           "log": _log}
 
 
 def _is_line(words, has_text):
@@ -203,4 +204,4 @@ class Desk:
         if self._book is not None:
             return _job(self._book, ("whole", development))
         self._book = Book(development)
-        return _open(self._book, [])
+        return _all_open(self._book, [])

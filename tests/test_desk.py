@@ -274,6 +274,16 @@ class DeskTest(unittest.TestCase):
         self.assertEqual(desk.say("break 1 go stays odd"), "toogreat")
         self.assertEqual(desk.say("show 1 go stays odd")[:20], "(not (same (mul 2 (a"[:20])
 
+    def test_goals_greater_than_any_that_are_promised(self):
+        long = var("n")
+        for _ in range(7):
+            long = ("add", long, long)
+        model = ("one", (("n", ("num", 3)),), (("small", ("less", num(0), long)),), ((("be", "n", num(1)),), ()), (
+            ("go", None, (), (), (("be", "n", long),), ()),), None)
+        desk = desk_of(((), (model,)))
+        self.assert_says(desk, ("break 0 go stays small", "badgoal"), ("break 0 start stays small", "none"),
+                         ("goals", "4 4"), ("run 1", "badrun"))
+
     def test_no_line(self):
         for desk in (Desk(), desk_of(LAMP)):
             for line in ["", " ", "  ", "hello", "Goals", "goals ", " goals", "goals  ", "goals 1", "undo 1",
