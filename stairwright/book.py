@@ -21,6 +21,8 @@ class Book:
         self._view = _view_of(development)
         # By what _view_of tells of a GOAL.
         self._papers = {}
+        # To search for these once more would take as long, and find nothing again.
+        self._in_vain = {}
         self._log = []
         self._many_jobs = 0
         self._many_open = 0
@@ -116,9 +118,11 @@ class Book:
         ahead = self.still_open()
         development, goals, keys = self._view
         for goal, key in zip(goals, keys):
-            if key not in self._papers:
+            if key not in self._papers and key not in self._in_vain:
                 paper = _paper_found(development[0], goal)
-                if paper is not None:
+                if paper is None:
+                    self._in_vain[key] = True
+                else:
                     self._papers[key] = paper
         behind = self.still_open()
         return tuple([which for which in ahead if which not in behind])
@@ -135,6 +139,7 @@ class Book:
         """Another BOOK with all that this one has."""
         other = Book(self._view[0])
         other._papers = {key: paper for key, paper in self._papers.items()}
+        other._in_vain = {key: True for key in self._in_vain}
         other._log = list(self._log)
         other._many_jobs = self._many_jobs
         other._done_jobs = list(self._done_jobs)

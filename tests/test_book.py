@@ -122,6 +122,12 @@ class ShowTest(unittest.TestCase):
         self.assertEqual(told, tuple(which for which in ALL_LAMP if which not in false))
         self.assertEqual(book.still_open(), tuple(false))
         self.assertIsNone(book.paper(FITS_UP))
+        self.assertEqual((book.try_all(), book.still_open()), ((), tuple(false)))
+        # What is true of another DEVELOPMENT is found there.
+        book.job([("whole", LAMP)])
+        left = book.still_open()
+        self.assertIn(FITS_UP, left)
+        self.assertEqual((book.try_all(), book.still_open()), (left, ()))
 
 
 class TryAllTest(unittest.TestCase):
@@ -162,6 +168,7 @@ class TryAllTest(unittest.TestCase):
         told = book.try_all()
         self.assertEqual(book.still_open(), ((1, "go", "stays", "odd"),))
         self.assertEqual(len(told), len(book) - 1)
+        self.assertEqual((book.try_all(), book.copy().try_all(), len(book.still_open())), ((), (), 1))
         self.assertIsNone(book.paper((1, "go", "stays", "odd")))
 
 
